@@ -3,7 +3,9 @@
 from columnbounds.bounds import OPEN
 from columnbounds.faults import Fault
 from columnbounds.kinds import Kind, is_kind, is_value_of, value_told
+from columnbounds.questions import answer_between, answer_example, answer_items, answer_judge, answer_may
 from columnbounds.reading import read_statistics
+from columnbounds.refusals import BAD_BYTES, BAD_KIND, BAD_NUMBER, BAD_VALUE, NO_KIND, TOO_MANY
 from columnbounds.stats import MOST_ITEMS, gaps_alone, merged, no_items, same_value
 from columnbounds.writing import statistics_bytes
 
@@ -12,16 +14,15 @@ CALL_ADD = 1
 CALL_PARTS = 2
 CALL_WRITE = 3
 CALL_READ = 4
+CALL_FAULT = 5
+CALL_MERGE = 6
+CALL_BETWEEN = 7
+CALL_MAY = 8
+CALL_JUDGE = 9
+CALL_ITEMS = 10
 
 # Of each call, by its number: how many whole numbers it has, and how many rows behind them.
-SHAPES = ((2, 0), (2, 1), (0, 0), (0, 0), (0, 1), (0, 1))
-
-BAD_KIND = -1
-NO_KIND = -2
-BAD_NUMBER = -3
-BAD_VALUE = -4
-TOO_MANY = -5
-BAD_BYTES = -20
+SHAPES = ((2, 0), (2, 1), (0, 0), (0, 0), (0, 1), (0, 1), (0, 1), (0, 0), (0, 1), (1, 1), (0, 0), (2, 1))
 
 
 class Column:
@@ -74,15 +75,20 @@ def statistics_of_item(kind, times, there, value):
     return same_value(kind, times, value)
 
 
+def answer_merged(column, statistics):
+    """The answer of a call that merges statistics into those held."""
+    if column.statistics.count + statistics.count > MOST_ITEMS:
+        return [TOO_MANY]
+    column.statistics = merged(column.statistics, statistics)
+    return [column.statistics.count]
+
+
 def answer_add(column, times, there, value):
     if times < 0 or there < 0 or there > 1:
         return [BAD_NUMBER]
     if not is_item(column.kind, there, value):
         return [BAD_VALUE]
-    if column.statistics.count + times > MOST_ITEMS:
-        return [TOO_MANY]
-    column.statistics = merged(column.statistics, statistics_of_item(column.kind, times, there, value))
-    return [column.statistics.count]
+    return answer_merged(column, statistics_of_item(column.kind, times, there, value))
 
 
 def bounds_told(kind, bounds):
@@ -123,11 +129,41 @@ def answer_fault(column, data):
     return [0]
 
 
+def answer_merge(column, data):
+    try:
+        statistics = read_statistics(column.kind, data)
+    except Fault as fault:
+        return [BAD_BYTES - fault.kind]
+    return answer_merged(column, statistics)
+
+
 def next_arguments(calls, call):
     shape = SHAPES[call]
     numbers = [calls.next_number() for step in range(shape[0])]
     rows = [calls.next_row() for step in range(shape[1])]
     return numbers + rows
+
+
+def answer_on_bytes(column, call, data):
+    if call == CALL_READ:
+        return answer_read(column, data)
+    if call == CALL_FAULT:
+        return answer_fault(column, data)
+    return answer_merge(column, data)
+
+
+def answer_question(column, call, given):
+    kind = column.kind
+    statistics = column.statistics
+    if call == CALL_BETWEEN:
+        return answer_between(kind, statistics)
+    if call == CALL_MAY:
+        return answer_may(kind, statistics, given[0])
+    if call == CALL_JUDGE:
+        return answer_judge(kind, statistics, given[0], given[1])
+    if call == CALL_ITEMS:
+        return answer_items(kind, statistics)
+    return answer_example(kind, statistics, given[0], given[1], given[2])
 
 
 def answer_next(column, calls):
@@ -143,9 +179,9 @@ def answer_next(column, calls):
         return answer_parts(column)
     if call == CALL_WRITE:
         return answer_write(column)
-    if call == CALL_READ:
-        return answer_read(column, given[0])
-    return answer_fault(column, given[0])
+    if call <= CALL_MERGE:
+        return answer_on_bytes(column, call, given[0])
+    return answer_question(column, call, given)
 
 
 def answers(calls):

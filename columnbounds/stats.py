@@ -28,5 +28,9 @@ def same_value(kind, times, value):
     return Statistics(times, 0, bounds_of_value(kind, value))
 
 
+def value_count(statistics):
+    return statistics.count - statistics.gaps
+
+
 def merged(one, other):
     return Statistics(one.count + other.count, one.gaps + other.gaps, merged_bounds(one.bounds, other.bounds))

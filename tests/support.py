@@ -1,4 +1,4 @@
-"""What the tests share: calls written as lists, and answers taken apart again."""
+"""What the tests share: calls written as lists, answers taken apart again, and statistics worked out from items."""
 
 from columnbounds.column import answers
 
@@ -49,6 +49,30 @@ def fault(data):
     return [5, len(data)] + list(data)
 
 
+def merge(data):
+    return [6, len(data)] + list(data)
+
+
+def between():
+    return [7]
+
+
+def may(row):
+    return [8, len(row)] + list(row)
+
+
+def judge(atom, literal):
+    return [9, atom, len(literal)] + list(literal)
+
+
+def items():
+    return [10]
+
+
+def example(atom, want, literal):
+    return [11, atom, want, len(literal)] + list(literal)
+
+
 def split(told):
     """One list for each answer, out of the one list that is given back."""
     out = []
@@ -65,6 +89,8 @@ def split(told):
 def run(*calls):
     """The answers of the calls, one list each; the list handed in must stay as it was."""
     handed = [number for call in calls for number in call]
+    if not 1 <= len(calls) <= 400 or len(handed) > 15000:
+        raise AssertionError("no such list is handed in")
     before = list(handed)
     told = answers(handed)
     if handed != before:
@@ -95,3 +121,60 @@ def written(chosen, *calls):
     if told[0] != len(told) - 1:
         raise AssertionError(f"write tells a wrong count: {told}")
     return told[1:]
+
+
+def short(number):
+    if number < 128:
+        return [number]
+    return [128 + number % 128] + short(number // 128)
+
+
+def signed(number):
+    return short(2 * number if number >= 0 else -2 * number - 1)
+
+
+def text_bounds(least, greatest):
+    """Mark and text of both bounds; the upper text is None if it is open."""
+    lower = (0, least) if len(least) <= 8 else (1, least[:8])
+    if len(greatest) <= 8:
+        return lower, (0, greatest)
+    kept = list(greatest[:8])
+    while kept and kept[-1] == 255:
+        kept.pop()
+    if not kept:
+        return lower, (2, None)
+    return lower, (1, tuple(kept[:-1]) + (kept[-1] + 1,))
+
+
+def told_parts(chosen, count, missing, values):
+    told = [count, missing]
+    if not values:
+        return told
+    if chosen[0] != 2:
+        return told + [0, min(values)[0], 0, max(values)[0]]
+    lower, upper = text_bounds(min(values), max(values))
+    told += [lower[0], len(lower[1])] + list(lower[1]) + [upper[0]]
+    return told if upper[1] is None else told + [len(upper[1])] + list(upper[1])
+
+
+def told_bytes(chosen, count, missing, values):
+    data = short(count) + short(missing)
+    if not values:
+        return data
+    if chosen[0] != 2:
+        return data + signed(min(values)[0]) + short(max(values)[0] - min(values)[0])
+    lower, upper = text_bounds(min(values), max(values))
+    data += [lower[0] + 2 * upper[0], len(lower[1])] + list(lower[1])
+    return data if upper[1] is None else data + [len(upper[1])] + list(upper[1])
+
+
+def told_value(chosen, row):
+    return [len(row)] + list(row) if chosen[0] == 2 else list(row)
+
+
+def told_items(chosen, values, missing):
+    """How items tells these values and so many gaps behind them."""
+    told = [len(values) + missing]
+    for row in values:
+        told += [1] + told_value(chosen, row)
+    return told + [0] * missing

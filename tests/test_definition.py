@@ -6,54 +6,11 @@ Rows of items are drawn from a fixed seed, so each run looks at the same ones.
 import random
 import unittest
 
-from tests.support import B, add, fault, gaps, kind_i, kind_t, parts, read, run_on, write
+from tests.support import (
+    B, add, fault, gaps, kind_i, kind_t, merge, parts, read, run_on, told_bytes, told_parts, write,
+)
 
 MOST = 1000000
-
-
-def short(number):
-    if number < 128:
-        return [number]
-    return [128 + number % 128] + short(number // 128)
-
-
-def signed(number):
-    return short(2 * number if number >= 0 else -2 * number - 1)
-
-
-def text_bounds(least, greatest):
-    """Mark and text of both bounds; the upper text is None if it is open."""
-    lower = (0, least) if len(least) <= 8 else (1, least[:8])
-    if len(greatest) <= 8:
-        return lower, (0, greatest)
-    kept = list(greatest[:8])
-    while kept and kept[-1] == 255:
-        kept.pop()
-    if not kept:
-        return lower, (2, None)
-    return lower, (1, tuple(kept[:-1]) + (kept[-1] + 1,))
-
-
-def told_parts(chosen, count, missing, values):
-    told = [count, missing]
-    if not values:
-        return told
-    if chosen[0] != 2:
-        return told + [0, min(values)[0], 0, max(values)[0]]
-    lower, upper = text_bounds(min(values), max(values))
-    told += [lower[0], len(lower[1])] + list(lower[1]) + [upper[0]]
-    return told if upper[1] is None else told + [len(upper[1])] + list(upper[1])
-
-
-def told_bytes(chosen, count, missing, values):
-    data = short(count) + short(missing)
-    if not values:
-        return data
-    if chosen[0] != 2:
-        return data + signed(min(values)[0]) + short(max(values)[0] - min(values)[0])
-    lower, upper = text_bounds(min(values), max(values))
-    data += [lower[0] + 2 * upper[0], len(lower[1])] + list(lower[1])
-    return data if upper[1] is None else data + [len(upper[1])] + list(upper[1])
 
 
 class Loose:
@@ -172,6 +129,30 @@ class DefinitionTest(unittest.TestCase):
                 self.assertEqual(out[1:3], [[0], [counted(row)[0]]], (chosen, row))
                 self.assertEqual(out[3], told_parts(chosen, *counted(row)))
                 self.assertEqual(out[4], [len(data)] + data)
+
+
+class MergeTest(unittest.TestCase):
+    def test_merged_statistics_are_those_of_all_items(self):
+        draw = random.Random(4)
+        for chosen in CHOSEN:
+            for step in range(200):
+                one, other = some_row(draw, chosen), some_row(draw, chosen)
+                both = counted(one + other)
+                for held, merged in ((one, other), (other, one)):
+                    handed = told_bytes(chosen, *counted(merged))
+                    out = run_on(chosen, *calls_of(held), merge(handed), parts(), write())
+                    data = told_bytes(chosen, *both)
+                    self.assertEqual(out[-3:], [[both[0]], told_parts(chosen, *both), [len(data)] + data])
+
+    def test_the_order_of_merging_makes_no_difference(self):
+        draw = random.Random(5)
+        for chosen in CHOSEN:
+            for step in range(50):
+                rows = [some_row(draw, chosen) for many in range(4)]
+                handed = [merge(told_bytes(chosen, *counted(row))) for row in rows]
+                wanted = told_parts(chosen, *counted(sum(rows, [])))
+                for calls in (handed, handed[::-1], handed[2:] + handed[:2]):
+                    self.assertEqual(run_on(chosen, *calls, parts())[-1], wanted, (chosen, rows))
 
 
 class StrictTest(unittest.TestCase):
